@@ -1,0 +1,1 @@
+"""Past-time rules over a row of entries."""
