@@ -1,5 +1,7 @@
 """What holds at an entry, told from the memory of the entries ahead of it."""
 
+from pastwatch.memory import next_member
+
 
 def is_near(part, moment, past):
     return part.span is None or moment - past <= part.span
@@ -19,20 +21,6 @@ def holds_by_itself(part, values, names):
     if part.kind == "or":
         return any(values)
     return not values[0] or values[1]
-
-
-# The latest moments say enough: moments never fall, so an older one is in the window only if these are.
-def next_member(part, values, member, moment):
-    holds = values[-1]
-    if part.kind == "before":
-        return holds
-    if part.kind == "always":
-        return member if holds else moment
-    if part.kind == "least":
-        return (member + (moment,))[-part.needed:] if holds else member
-    if part.kind == "since" and not holds and not values[0]:
-        return None
-    return moment if holds else member
 
 
 def holds_by_memory(part, values, memory, moment):

@@ -13,17 +13,9 @@ class Part:
 
 
 class Rules:
-    # watches holds, for each watch, the place of its outermost part.
-    def __init__(self, parts, watches, beginning):
+    # watches holds, for each watch, the place of its outermost part;
+    # kinds holds, for each member of the memory, the word that it stands for.
+    def __init__(self, parts, watches, kinds):
         self.parts = parts
         self.watches = watches
-        self.beginning = beginning
-
-
-# A member of the memory when there is no entry: no moments, no, an empty row.
-def first_member(kind):
-    if kind == "before":
-        return False
-    if kind == "least":
-        return ()
-    return None
+        self.kinds = kinds

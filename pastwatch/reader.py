@@ -2,7 +2,6 @@
 
 from pastwatch.parts import Part
 from pastwatch.parts import Rules
-from pastwatch.parts import first_member
 from pastwatch.words import end_of_token
 from pastwatch.words import is_figure
 from pastwatch.words import is_letter
@@ -76,7 +75,7 @@ class Reader:
         self.pending = []
         self.depth = 0
         self.total = 0
-        self.beginning = []
+        self.kinds = []
 
     # Each of the taking methods gives back the kind of the fault, SOUND if there is none.
     def take(self, token):
@@ -187,8 +186,8 @@ class Reader:
     # The memory's members stand as the words do in the text, not as the parts end: so the slot is given here.
     def begin(self, part):
         if part.kind in REMEMBERING:
-            part.slot = len(self.beginning)
-            self.beginning.append(first_member(part.kind))
+            part.slot = len(self.kinds)
+            self.kinds.append(part.kind)
         self.pending.append(part)
         if part.kind in OPENED:
             self.depth += 1
@@ -253,4 +252,4 @@ def read(row):
     fault = first_fault(reader, spell(row))
     if len(fault) > 0:
         return Reading([FAULTY] + fault, None)
-    return Reading([len(reader.watches)], Rules(reader.parts, reader.watches, reader.beginning))
+    return Reading([len(reader.watches)], Rules(reader.parts, reader.watches, reader.kinds))

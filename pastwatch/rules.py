@@ -6,6 +6,9 @@ JUDGE = 1
 LOAD = 2
 ENTRY = 3
 WAIT = 4
+TOLD = 5
+MEMORY = 6
+FORGET = 7
 
 
 class UnknownCall(ValueError):
@@ -37,6 +40,12 @@ def answer_of(watcher, call, numbers, rows):
         return watcher.entry(numbers[0], rows)
     if call == WAIT:
         return watcher.wait(numbers[0], rows)
+    if call == TOLD:
+        return watcher.told()
+    if call == MEMORY:
+        return watcher.tell_memory()
+    if call == FORGET:
+        return watcher.forget()
     raise UnknownCall(str(call))
 
 

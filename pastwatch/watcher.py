@@ -1,6 +1,8 @@
 """The object that has rules and follows a row of entries."""
 
 from pastwatch.holding import follow
+from pastwatch.memory import first_memory
+from pastwatch.memory import told_memory
 from pastwatch.reader import read
 from pastwatch.words import spell
 
@@ -9,6 +11,7 @@ NO_RULES = -3
 TOO_EARLY = -5
 TOO_MANY = -7
 NO_REFUSAL = 0
+DONE = 0
 
 FARTHEST_MOMENT = 9007199254740992
 MOST_ENTRIES = 1000000
@@ -27,6 +30,7 @@ class Watcher:
         self.memory = []
         self.entries = 0
         self.last = 0
+        self.answer = 0
 
     def judge(self, row):
         return read(row).answer
@@ -35,25 +39,47 @@ class Watcher:
         reading = read(row)
         if reading.rules is not None:
             self.rules = reading.rules
-            self.memory = list(reading.rules.beginning)
-            self.entries = 0
-            self.last = 0
+            self.restart()
         return reading.answer
+
+    def restart(self):
+        self.memory = first_memory(self.rules.kinds)
+        self.entries = 0
+        self.last = 0
+        self.answer = 0
 
     def entry(self, moment, names):
         refusal = self.refusal_at(moment)
         if refusal != NO_REFUSAL:
             return [refusal]
-        answer = follow(self.rules, self.memory, moment, spell_names(names))
+        self.answer = follow(self.rules, self.memory, moment, spell_names(names))
         self.entries += 1
         self.last = moment
-        return [answer]
+        return [self.answer]
 
     def wait(self, moment, names):
         refusal = self.refusal_at(moment)
         if refusal != NO_REFUSAL:
             return [refusal]
         return [follow(self.rules, list(self.memory), moment, spell_names(names))]
+
+    def told(self):
+        if self.rules is None:
+            return [NO_RULES]
+        if self.entries == 0:
+            return [DONE, 0]
+        return [DONE, self.entries, self.last, self.answer]
+
+    def tell_memory(self):
+        if self.rules is None:
+            return [NO_RULES]
+        return told_memory(self.rules.kinds, self.memory)
+
+    def forget(self):
+        if self.rules is None:
+            return [NO_RULES]
+        self.restart()
+        return [DONE]
 
     def refusal_at(self, moment):
         if self.rules is None:

@@ -36,6 +36,18 @@ def wait(moment, *names):
     return written(4, [moment], names)
 
 
+def told():
+    return written(5, [], [])
+
+
+def memory():
+    return written(6, [], [])
+
+
+def forget():
+    return written(7, [], [])
+
+
 def parted(numbers):
     found = []
     place = 0
@@ -48,17 +60,28 @@ def parted(numbers):
 
 def run(*calls):
     """The answers, one list for each call."""
-    return parted(answers([number for call in calls for number in call]))
+    handed = [number for call in calls for number in call]
+    assert len(calls) <= 400 and len(handed) <= 16000 and calls.count(memory()) <= 60, "more than may be handed in"
+    return parted(answers(handed))
 
 
 def judged(text):
     return run(judge(text))[0]
 
 
+def entries(row):
+    """The calls that take these entries; an entry is a moment and its names, parted by blanks."""
+    return [entry(moment, *names.split()) for moment, names in row]
+
+
 def followed(text, row):
-    """The entries' answers under these rules; an entry is a moment and its names, parted by blanks."""
-    calls = [load(text)] + [entry(moment, *names.split()) for moment, names in row]
-    return [answer[0] for answer in run(*calls)[1:]]
+    """The entries' answers under these rules."""
+    return [answer[0] for answer in run(load(text), *entries(row))[1:]]
+
+
+def remembered(text, row):
+    """What memory answers behind these entries."""
+    return run(load(text), *entries(row), memory())[-1]
 
 
 def held(formula, row):
@@ -81,6 +104,7 @@ class Straight:
         self.at = 0
         self.parts = 0
         self.total = 0
+        self.kept = []
 
     def peek(self):
         self.at = re.compile(r"[ \n]*").match(self.text, self.at).end()
@@ -136,6 +160,10 @@ class Straight:
         self.parts += 1
         return tree
 
+    def keep(self, place, *tree):
+        self.kept.append((place, tree))
+        return self.part(*tree)
+
     def rules(self):
         watches = {}
         while self.peek() is not None or not watches:
@@ -175,9 +203,9 @@ class Straight:
         left = self.u(depth)
         if self.peek() != "since":
             return left
-        self.pass_on()
+        place = self.pass_on()
         span = self.span()
-        return self.part("since", span, left, self.u(depth))
+        return self.keep(place, "since", span, left, self.u(depth))
 
     def span(self):
         if self.peek() != "within":
@@ -187,16 +215,19 @@ class Straight:
 
     def u(self, depth):
         word = self.peek()
-        if word in ("not", "before"):
+        place = self.at
+        if word == "not":
             return self.part(word, self.u(self.deeper(depth)))
+        if word == "before":
+            return self.keep(place, word, self.u(self.deeper(depth)))
         if word in ("once", "always"):
             inner = self.deeper(depth)
-            return self.part(word, self.span(), self.u(inner))
+            return self.keep(place, word, self.span(), self.u(inner))
         if word == "least":
             inner = self.deeper(depth)
             needed = self.number(1, 64)
             self.total += needed
-            return self.part(word, needed, self.span(), self.u(inner))
+            return self.keep(place, word, needed, self.span(), self.u(inner))
         return self.t(depth)
 
     def t(self, depth):
@@ -221,11 +252,38 @@ def straight_judge(text):
 
 
 class Row:
-    """Tells what holds at an entry by the table, from the whole row."""
+    """Tells what holds at an entry by the table, and what the memory is, from the whole row."""
 
     def __init__(self, row):
         self.row = row
         self.told = {}
+
+    def grown(self, moment, names):
+        """The row with one more entry: what is told of the others stays as it is."""
+        longer = Row(self.row + [(moment, names)])
+        longer.told.update(self.told)
+        return longer
+
+    def bits(self, watches):
+        return sum([2 ** place for place, tree in enumerate(watches) if self.holds(tree, len(self.row) - 1)])
+
+    def member(self, tree):
+        word = tree[0]
+        every = range(len(self.row))
+        if word == "before":
+            return [1 if self.row and self.holds(tree[1], len(self.row) - 1) else 0]
+        if word == "since":
+            found = [j for j in every
+                     if self.holds(tree[3], j) and all([self.holds(tree[2], k) for k in every[j + 1:]])]
+        else:
+            found = [j for j in every if self.holds(tree[-1], j) == (word != "always")]
+        if word == "least":
+            return [len(found[-tree[1]:])] + [self.row[j][0] for j in found[-tree[1]:]]
+        return [1, self.row[found[-1]][0]] if found else [0]
+
+    def memory(self, kept):
+        members = [self.member(tree) for place, tree in sorted(kept, key=lambda one: one[0])]
+        return [len(members)] + [number for member in members for number in member]
 
     def holds(self, tree, i):
         key = (id(tree), i)
@@ -264,11 +322,72 @@ class Row:
 
 def straight_follow(text, row):
     watches = Straight(text).rules()
-    told = []
-    for i in range(len(row)):
-        whole = Row(row[:i + 1])
-        told.append(sum([2 ** place for place, tree in enumerate(watches) if whole.holds(tree, i)]))
-    return told
+    return [Row(row[:i + 1]).bits(watches) for i in range(len(row))]
+
+
+def straight_memory(text, row):
+    reading = Straight(text)
+    reading.rules()
+    return Row(row).memory(reading.kept)
+
+
+class Whole:
+    """The object by the document's words: it keeps its rules and the whole row."""
+
+    def __init__(self):
+        self.watches = None
+        self.kept = []
+        self.row = Row([])
+
+    def answer(self, call):
+        number, numbers, texts = taken_apart(call)
+        if number in (1, 2):
+            return self.judge_or_load(number == 2, texts[0])
+        if self.watches is None:
+            return [-3]
+        if number in (3, 4):
+            return self.entry_or_wait(number == 3, numbers[0], texts)
+        if number == 5:
+            row = self.row.row
+            return [0, len(row), row[-1][0], self.row.bits(self.watches)] if row else [0, 0]
+        if number == 6:
+            return self.row.memory(self.kept)
+        self.row = Row([])
+        return [0]
+
+    def judge_or_load(self, loads, text):
+        answer = straight_judge(text)
+        if loads and answer[0] > 0:
+            reading = Straight(text)
+            self.watches = reading.rules()
+            self.kept = reading.kept
+            self.row = Row([])
+        return answer
+
+    def entry_or_wait(self, takes, moment, names):
+        row = self.row.row
+        if not -FARTHEST <= moment <= FARTHEST:
+            return [-1]
+        if row and moment < row[-1][0]:
+            return [-5]
+        names = [name for name in names if re.fullmatch("[a-z][a-z0-9_]*", name)]
+        longer = self.row.grown(moment, " ".join(names))
+        if takes:
+            self.row = longer
+        return [longer.bits(self.watches)]
+
+
+def taken_apart(call):
+    """A written call's number, its whole numbers, its lists as texts."""
+    numbers = call[2:2 + call[1]]
+    texts = [bytes(row).decode("latin-1") for row in parted(call[3 + call[1]:])]
+    assert len(texts) == call[2 + call[1]]
+    return call[0], numbers, texts
+
+
+def straight_run(*calls):
+    whole = Whole()
+    return [whole.answer(call) for call in calls]
 
 
 def some_formula(chance, depth):
@@ -308,3 +427,40 @@ def some_row(chance, length):
         row.append((moment, " ".join([name for name in "abcd" if chance.random() < 0.5])))
         moment += chance.choice([0, 0, 1, 1, 2, 3, 7])
     return row
+
+
+def good_rules(chance, depth=2):
+    while True:
+        text = some_rules(chance, depth)
+        if len(text) < 1000 and straight_judge(text)[0] > 0:
+            return text
+
+
+def some_call(chance, moment):
+    """A call of any of the seven kinds, refused now and then; an entry or a wait is of about this moment."""
+    names = [name for name in ("a", "b", "c", "d", "e", "", "A") if chance.random() < 0.5]
+    when = chance.choice([moment] * 9 + [moment - 3, FARTHEST + 1, -FARTHEST - 1])
+    faulty = chance.choice(["", "w:a", "w:a b;", "w:least 65 a;", "w:a;w:b;", "w:(a;", "?"])
+    kind = chance.choice(["entry"] * 12 + ["wait"] * 4 + ["told", "memory"] * 3 + ["faulty"] * 2
+                         + ["judge", "load", "forget"])
+    if kind in ("entry", "wait"):
+        return entry(when, *names) if kind == "entry" else wait(when, *names)
+    if kind == "faulty":
+        return chance.choice([judge, load])(faulty)
+    if kind in ("judge", "load"):
+        text = good_rules(chance, chance.choice([0, 0, 2]))
+        return judge(text) if kind == "judge" else load(text)
+    return {"told": told, "memory": memory, "forget": forget}[kind]()
+
+
+def some_calls(chance, count):
+    """Calls that may be handed in together: a few without rules, then mostly with."""
+    first = chance.randrange(4)
+    moment = chance.randrange(-20, 20)
+    calls = []
+    while len(calls) < count:
+        moment += chance.choice([0, 0, 1, 1, 2, 7])
+        call = load(good_rules(chance)) if len(calls) == first else some_call(chance, moment)
+        if call != memory() or calls.count(call) < 60:
+            calls.append(call)
+    return calls

@@ -5,12 +5,14 @@ import contextlib
 import inspect
 import io
 import os
+import random
 import sys
 import unittest
 from unittest import mock
 
 import pastwatch.rules
-from helper import entry, judge, load, run, straight_follow, wait
+from helper import (entry, forget, judge, load, memory, run, some_calls, straight_follow, straight_memory,
+                    straight_run, told, wait)
 from pastwatch.rules import answers
 
 A = ord("a")
@@ -42,6 +44,9 @@ class Form(unittest.TestCase):
         self.assertEqual(answers([3, 1, 5, 0]), [1, -3])
         self.assertEqual(answers([4, 1, 5, 2, 1, A, 0]), [1, -3])
         self.assertEqual(answers([1, 0, 1, 4097] + [32] * 4097), [1, -2])
+        self.assertEqual(answers([5, 0, 0]), [1, -3])
+        self.assertEqual(answers([6, 0, 0]), [1, -3])
+        self.assertEqual(answers([7, 0, 0]), [1, -3])
 
     def test_several_calls_behind_one_another(self):
         self.assertEqual(answers([2, 0, 1, 4, W, COLON, A, END, 3, 1, 5, 1, 1, A, 3, 1, 5, 3, 0, 2, A, A, 1, W,
@@ -49,9 +54,19 @@ class Form(unittest.TestCase):
                          [1, 1, 1, 1, 1, 0, 1, -5, 3, -6, 3, 2, 1, 1])
 
     def test_the_answers_kind(self):
-        given = answers(judge("w:a") + load("w:a;") + entry(0, "a") + wait(1) + entry(-1))
+        text = "w:once a; v:always a; u:before a; t:before b; s:a since b; r:least 2 a;"
+        given = answers(judge("w:a") + load(text) + memory() + told() + entry(0, "a") + wait(1) + entry(-1) + memory()
+                        + told() + entry(1, "b") + memory() + told() + forget() + memory() + told())
         self.assertIs(type(given), list)
         self.assertEqual({type(number) for number in given}, {int})
+
+    def test_what_is_told_has_no_count_but_memorys(self):
+        self.assertEqual(answers([2, 0, 1, 4, W, COLON, A, END, 5, 0, 0, 6, 0, 0, 3, 1, -8, 1, 1, A, 5, 0, 0, 6, 0, 0,
+                                  7, 0, 0, 5, 0, 0]),
+                         [1, 1, 2, 0, 0, 1, 0, 1, 1, 4, 0, 1, -8, 1, 1, 0, 1, 0, 2, 0, 0])
+        self.assertEqual(answers(load("w:once a; v:least 3 a; u:before a;") + memory() + entry(4, "a") + entry(6, "a")
+                                 + told() + memory() + forget() + memory()),
+                         [1, 3, 4, 3, 0, 0, 0, 1, 1, 1, 5, 4, 0, 2, 6, 5, 7, 3, 1, 6, 2, 4, 6, 1, 1, 0, 4, 3, 0, 0, 0])
 
     def test_the_interface_is_a_plain_function(self):
         self.assertEqual(str(inspect.signature(answers)), "(calls)")
@@ -60,7 +75,8 @@ class Form(unittest.TestCase):
 
 
 class Apart(unittest.TestCase):
-    CALLS = judge("w:a b;") + load("w:once a; v:least 2 b;") + entry(3, "a", "b") + wait(5, "b") + entry(2) + entry(6)
+    CALLS = (told() + judge("w:a b;") + load("w:once a; v:least 2 b;") + entry(3, "a", "b") + wait(5, "b") + entry(2)
+             + memory() + entry(6) + told() + forget() + memory() + entry(0, "b"))
 
     def test_what_is_handed_in_is_the_same(self):
         calls = list(self.CALLS)
@@ -72,11 +88,24 @@ class Apart(unittest.TestCase):
 
     def test_nothing_is_kept_from_one_time_to_the_next(self):
         first = answers(self.CALLS)
-        self.assertEqual(answers(entry(0) + wait(0)), [1, -3, 1, -3])
+        for call in (entry(0), wait(0), told(), memory(), forget()):
+            self.assertEqual(answers(call + call), [1, -3, 1, -3])
         self.assertEqual(answers(self.CALLS), first)
         first.append(7)
         first[0] = 99
-        self.assertEqual(answers(self.CALLS), [3, -6, 3, 4, 1, 2, 1, 1, 1, 3, 1, -5, 1, 1])
+        self.assertEqual(answers(self.CALLS), [1, -3, 3, -6, 3, 4, 1, 2, 1, 1, 1, 3, 1, -5, 5, 2, 1, 3, 1, 3, 1, 1,
+                                               4, 0, 2, 6, 1, 1, 0, 3, 2, 0, 0, 1, 0])
+
+    def test_two_lists_after_one_another(self):
+        text = "w:once a; v:least 2 b; u:before a;"
+        later = load(text) + told() + memory() + entry(-50) + memory() + told()
+        alone = answers(later)
+        answers(load(text) + entry(3, "a", "b") + entry(4, "a", "b") + memory() + told())
+        self.assertEqual(answers(later), alone)
+        chance = random.Random(83)
+        lists = [sum(some_calls(chance, 40), []) for _ in range(10)]
+        first = [answers(calls) for calls in lists]
+        self.assertEqual([answers(calls) for calls in reversed(lists)], first[::-1])
 
     def test_it_prints_reads_and_imports_nothing(self):
         def refuse(*given, **named):
@@ -91,7 +120,31 @@ class Apart(unittest.TestCase):
         self.assertEqual(set(sys.modules), modules)
 
     def test_a_call_that_is_none(self):
-        self.assertRaises(pastwatch.rules.UnknownCall, answers, [99, 0, 0])
+        for number in (0, 8, 99, -5):
+            self.assertRaises(pastwatch.rules.UnknownCall, answers, [number, 0, 0])
+
+
+class Mixed(unittest.TestCase):
+    def test_all_seven_by_hand(self):
+        self.assertEqual(
+            run(told(), forget(), load("w:once a; v:least 2 within 5 b;"), told(), memory(), entry(-3, "a", "b"),
+                wait(0, "b"), judge("w:a;v:"), memory(), entry(-4), told(), entry(2, "b"), entry(3, "b"), memory(),
+                load("w"), told(), forget(), memory(), entry(-9), told(), load("u:before a;"), memory(), entry(0, "a"),
+                memory(), wait(0), told()),
+            [[-3], [-3], [2], [0, 0], [2, 0, 0], [1], [3], [-6, 1, 6], [2, 1, -3, 1, -3], [-5], [0, 1, -3, 1], [3], [3],
+             [2, 1, -3, 2, 2, 3], [-6, 1, 1], [0, 3, 3, 3], [0], [2, 0, 0], [0], [0, 1, -9, 0], [1], [1, 0], [0],
+             [1, 1], [1], [0, 1, 0, 0]])
+
+    def test_as_a_straight_reading(self):
+        chance = random.Random(89)
+        for _ in range(60):
+            calls = some_calls(chance, chance.randrange(1, 70))
+            self.assertEqual(run(*calls), straight_run(*calls), calls)
+
+    def test_each_kind_is_among_them(self):
+        calls = some_calls(random.Random(97), 300)
+        self.assertEqual({call[0] for call in calls}, {1, 2, 3, 4, 5, 6, 7})
+        self.assertEqual({answer[0] for answer in run(*calls) if answer[0] < 0}, {-1, -3, -5, -6})
 
 
 class Large(unittest.TestCase):
@@ -102,6 +155,35 @@ class Large(unittest.TestCase):
         self.assertEqual(len(calls), 400)
         self.assertEqual([answer[0] for answer in run(*calls)[1:]], straight_follow(text, row))
         self.assertEqual(run(*[wait(0)] * 400), [[-3]] * 400)
+        self.assertEqual(run(*[told()] * 400), [[-3]] * 400)
+
+    def test_400_calls_60_of_memory_among_them(self):
+        text = "w:once a since least 9 b; v:always within 30 not a; u:before b;"
+        calls = [load(text)]
+        for i in range(339):
+            names = [name for name, every in (("a", 7), ("b", 3)) if i % every == 0]
+            calls.append(entry(i // 2 - 60, *names))
+            if i % 5 == 4 and calls.count(memory()) < 60:
+                calls.append(memory())
+        self.assertEqual((len(calls), calls.count(memory())), (400, 60))
+        self.assertEqual(run(*calls), straight_run(*calls))
+        handed = [number for call in calls for number in call]
+        copied = list(handed)
+        answers(handed)
+        self.assertEqual(handed, copied)
+
+    def test_400_mixed_calls(self):
+        calls = some_calls(random.Random(127), 400)
+        self.assertEqual(run(*calls), straight_run(*calls))
+
+    def test_60_of_the_largest_memories(self):
+        text = "w:" + "or ".join(["least 64 within 1 yes "] * 16) + ";"
+        row = [(moment, "") for moment in range(339)]
+        calls = [load(text)] + [entry(moment) for moment, names in row] + [memory()] * 60
+        given = run(*calls)
+        # Lists this long are only compared: showing where they differ would take minutes.
+        self.assertTrue(given[340:] == [[16] + ([64] + list(range(275, 339))) * 16] * 60)
+        self.assertTrue(given[-1] == straight_memory(text, row))
 
     def test_40_deep(self):
         row = [(moment, "a" if moment % 3 == 0 else "b" if moment % 5 == 0 else "") for moment in range(50)]

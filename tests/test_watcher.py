@@ -11,7 +11,7 @@ FULL = 1000000
 
 
 def parts_of(watcher):
-    return (watcher.rules, list(watcher.memory), watcher.entries, watcher.last)
+    return (watcher.rules, list(watcher.memory), watcher.entries, watcher.last, watcher.answer)
 
 
 def loaded(text):
@@ -103,10 +103,17 @@ class Refusals(unittest.TestCase):
         self.assertEqual(watcher.entry(FARTHEST + 1, []), [-1])
         self.assertEqual(watcher.wait(-FARTHEST - 1, []), [-1])
         self.assertEqual(parts_of(watcher), earlier)
+        self.assertEqual(watcher.told(), [0, FULL, FULL, 2])
+        self.assertEqual(watcher.tell_memory(), [2, 1, 64] + list(range(FULL - 64, FULL - 1)) + [FULL])
         self.assertEqual(watcher.load(row_of("w:a")), [-6, 1, 3])
         self.assertEqual(watcher.entry(FULL, []), [-7])
-        self.assertEqual(watcher.load(row_of("w:a;")), [1])
-        self.assertEqual(watcher.entry(0, [name]), [1])
+        for anew, answer in ((watcher.forget, [0]), (lambda: watcher.load(row_of("w:before a;")), [1])):
+            watcher.entries = FULL
+            self.assertEqual(watcher.entry(FULL, []), [-7])
+            self.assertEqual(anew(), answer)
+            self.assertEqual(watcher.told(), [0, 0])
+            self.assertEqual(watcher.entry(0, [name]), [0])
+            self.assertEqual(watcher.told(), [0, 1, 0, 0])
 
     def test_a_refusal_takes_nothing(self):
         calls = [entry(0, "a"), entry(4, "b"), entry(4, "a", "b"), entry(6, "a"), entry(11, "b"), entry(30)]
@@ -158,6 +165,33 @@ class Wait(unittest.TestCase):
             for names in ([], ["a"], ["b"], ["a", "b", "c"]):
                 watcher.wait(7, [row_of(name) for name in names])
                 self.assertEqual(parts_of(watcher), earlier)
+
+
+class Telling(unittest.TestCase):
+    def test_nothing_changes_at_the_object(self):
+        watcher = loaded(TEXT)
+        for moment in (None, 3, 4):
+            if moment is not None:
+                watcher.entry(moment, [row_of("a"), row_of("b")])
+            earlier = parts_of(watcher)
+            for tell in (watcher.told, watcher.tell_memory):
+                tell().append(7)
+                self.assertEqual(parts_of(watcher), earlier)
+
+    def test_refused_without_rules(self):
+        watcher = Watcher()
+        earlier = parts_of(watcher)
+        for call in (watcher.told, watcher.tell_memory, watcher.forget):
+            self.assertEqual(call(), [-3])
+            self.assertEqual(parts_of(watcher), earlier)
+
+    def test_forget_is_as_behind_load(self):
+        watcher = loaded(TEXT)
+        earlier = parts_of(watcher)
+        watcher.entry(3, [row_of("a"), row_of("b")])
+        self.assertNotEqual(parts_of(watcher), earlier)
+        self.assertEqual(watcher.forget(), [0])
+        self.assertEqual(parts_of(watcher), earlier)
 
 
 class Memory(unittest.TestCase):
